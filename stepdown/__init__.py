@@ -1,0 +1,1 @@
+"""Stepdown: a stair of machines."""

@@ -1,0 +1,16 @@
+"""Questions about values that several modules ask."""
+
+
+def is_number(value, low, high):
+    """Whether a value is an integer from low to high."""
+    # Python counts True and False among its integers; the document does not.
+    if not isinstance(value, int) or isinstance(value, bool):
+        return False
+    return low <= value <= high
+
+
+def are_numbers(value, low, high):
+    """Whether a value is a tuple of integers from low to high."""
+    if not isinstance(value, tuple):
+        return False
+    return all([is_number(item, low, high) for item in value])
