@@ -61,7 +61,7 @@ class WrongTextTest(unittest.TestCase):
             "tape 2", "tape", "tape 2 1 1", "Tape 2 1", "tapes 2 1", "type 2 1", "tape 2 1\r", "tape\t2 1", "tape 2\t1",
             "tape 2 1_0", "tape 2.0 1", "tape two 1", "tape \u0662 1", "tape 2 \u0661", "tape 2 \u00b9", "2 1",
             "tape 2 ", "tape  2", "tape", "tape 2 " + "9" * 6000, "tape " + "9" * 6000 + " 1", "tape True 1",
-            "0 0 stop", "tape,2,1",
+            "0 0 stop", "tape,2,1", "tape None 1", "tape 2 None", "tape None None",
         ):
             self.wrong(line + "\n" + rest, 1)
             self.wrong(line + "\n", 1)
@@ -82,7 +82,8 @@ class WrongTextTest(unittest.TestCase):
             "{0} > -1 right 1", "{0} > 1 right -1", "{0} > 1  right 1", "{0} > 1 right  1", "{0}  > 1 right 1",
             "{0} >  1 right 1", "{0} > 1 right 1 ", " {0} > 1 right 1", "{0} < 1 right 1", "{0} 1 right 1",
             "{0} > 1 right 1\r", "{0}\t> 1 right 1", "{0} > 1 right 1_0", "{0} > \u0661 right 1", "{0} > 1 right \u00b9",
-            "{0} > None", "{0} > 1 stop 1", "{0} > 1 right 1.0", "{0} > right 1 1", "{0} > " + "9" * 6000 + " right 1",
+            "{0} > None", "{0} > None right 1", "{0} > 1 None 1", "{0} > 1 right None",
+            "{0} > 1 stop 1", "{0} > 1 right 1.0", "{0} > right 1 1", "{0} > " + "9" * 6000 + " right 1",
             "0{0} stop", "+{0} stop", "{0} stop stop", "{0}", "2 0 stop", "0 2 stop", "{0} >  right 1", "{0} > 1 right ",
             "{0}\x0bstop", "{0}\u2028stop", "{0} stop\x0c", "{0}  > 1 right",
         )
