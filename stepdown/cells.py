@@ -1,6 +1,6 @@
 """Lines of cells that all change at once."""
 
-from stepdown.checks import are_numbers, is_number
+from stepdown.checks import are_numbers, is_line, is_number
 from stepdown.errors import BadCells
 from stepdown.tape import trimmed
 
@@ -36,9 +36,7 @@ class Cells:
 
     def is_configuration(self, value):
         """Whether a value is a configuration of this machine."""
-        if not are_numbers(value, 0, self.letters - 1):
-            return False
-        return len(value) == 0 or (value[0] != 0 and value[-1] != 0)
+        return is_line(value, self.letters - 1)
 
     def _changed(self, row):
         """The letters after one step of the cells of a row, with zeros beyond both ends."""
@@ -56,7 +54,7 @@ class Cells:
         after = self._changed(row)
         if after == row:
             return None
-        return trimmed(trimmed(after)[::-1])[::-1]
+        return unpadded(after)
 
     def run(self, configuration, steps):
         """The configuration after at most so many steps, and their number."""
@@ -80,6 +78,11 @@ class Cells:
             row = after
             found.append(row)
         return found
+
+
+def unpadded(row):
+    """A row without the zeros at both ends."""
+    return trimmed(trimmed(row)[::-1])[::-1]
 
 
 def mirrored_cells(machine):

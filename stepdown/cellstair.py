@@ -40,24 +40,15 @@ class CellStair:
 
     def letter(self, mark, state):
         """The letter of a place with this mark, and with the head in this state if it is not None."""
-        if state is None:
-            return mark
-        return self.upper.marks * (state + 1) + mark
+        return letter_of(self.upper.marks, mark, state)
 
     def down(self, configuration):
         """The line that belongs to a configuration of the tape machine."""
-        state, left, mark, right = configuration
-        return left[::-1] + (self.letter(mark, state),) + right
+        return line_of(self.upper.marks, configuration)
 
     def up(self, line):
         """The configuration of the tape machine that a line means, or None."""
-        marks = self.upper.marks
-        heads = [at for at, letter in enumerate(line) if letter >= marks]
-        if len(heads) != 1:
-            return None
-        at = heads[0]
-        state = line[at] // marks - 1
-        return state, trimmed(line[:at][::-1]), line[at] % marks, trimmed(line[at + 1:])
+        return meaning_of(self.upper.marks, line)
 
     def pace(self, configuration):
         """How many steps of the line one step of the tape machine takes."""
@@ -66,3 +57,26 @@ class CellStair:
     def ending(self, configuration):
         """After how many steps the line stops where the tape machine has stopped: at once."""
         return 0
+
+
+def letter_of(marks, mark, state):
+    """The letter of a place of a tape with so many marks; the state is None if the head is elsewhere."""
+    if state is None:
+        return mark
+    return marks * (state + 1) + mark
+
+
+def line_of(marks, configuration):
+    """The line of the letters of a tape's places."""
+    state, left, mark, right = configuration
+    return left[::-1] + (letter_of(marks, mark, state),) + right
+
+
+def meaning_of(marks, line):
+    """The configuration that a line of letters means, or None; there may be zeros at its ends."""
+    heads = [at for at, letter in enumerate(line) if letter >= marks]
+    if len(heads) != 1:
+        return None
+    at = heads[0]
+    state = line[at] // marks - 1
+    return state, trimmed(line[:at][::-1]), line[at] % marks, trimmed(line[at + 1:])

@@ -14,3 +14,10 @@ def are_numbers(value, low, high):
     if not isinstance(value, tuple):
         return False
     return all([is_number(item, low, high) for item in value])
+
+
+def is_line(value, high):
+    """Whether a value is a tuple of integers from 0 to high that neither begins nor ends with 0."""
+    if not are_numbers(value, 0, high):
+        return False
+    return len(value) == 0 or (value[0] != 0 and value[-1] != 0)

@@ -43,7 +43,7 @@ def rows_on(tiles, floor, left, right):
     """All rows that stand on a floor between two walls, in ascending order."""
     if len(floor) > LONGEST_FLOOR:
         raise TooLarge("a floor has at most 60 colours")
-    ends = ends_of_rows(tiles, floor, right)
+    ends = ends_of_rows(tiles, floor, right, MOST_ROWS + 1)
     if ends[0].get(left, 0) > MOST_ROWS:
         raise TooLarge("at most 2000 rows stand on a floor")
     rows = [()] if left in ends[0] else []
@@ -53,17 +53,18 @@ def rows_on(tiles, floor, left, right):
     return rows
 
 
-def ends_of_rows(tiles, floor, right):
+def ends_of_rows(tiles, floor, right, enough):
     """For each place of a floor, and behind the last one: how many ends of rows there are by the colour in the west.
 
-    Rows are begun only where they have an end, so that no time goes into the others."""
+    Rows are begun only where they have an end, so that no time goes into the others. Numbers
+    above `enough` are counted as `enough`: on a long floor they would have very many digits."""
     ends = [{right: 1}]
     for colour in floor[::-1]:
         behind = ends[-1]
         here = {}
         for east, _, west, _ in tiles.on_colour(colour):
             if east in behind:
-                here[west] = here.get(west, 0) + behind[east]
+                here[west] = min(enough, here.get(west, 0) + behind[east])
         ends.append(here)
     return ends[::-1]
 

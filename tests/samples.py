@@ -2,6 +2,8 @@
 
 from random import Random
 
+from stepdown.counters import Counters
+from stepdown.stacks import Stacks
 from stepdown.tape import Tape
 
 ADD_ONE = Tape(2, 2, [(1, 1, 1), (0, 1, 0), None, None])
@@ -37,6 +39,32 @@ def random_configuration(random, machine, longest=4):
     left = random_side(random, machine.marks, longest)
     right = random_side(random, machine.marks, longest)
     return random.randrange(machine.states), left, random.randrange(machine.marks), right
+
+
+def random_stacks(random, states, stops=0.1):
+    """A stack machine some of whose rows are None."""
+    rows = []
+    for _ in range(states):
+        if random.random() < stops:
+            rows.append(None)
+        elif random.random() < 0.5:
+            rows.append(("push", random.randrange(2), random.randrange(2), random.randrange(states)))
+        else:
+            rows.append(("pop", random.randrange(2), random.randrange(states), random.randrange(states)))
+    return Stacks(rows)
+
+
+def random_counters(random, count, states, stops=0.1):
+    """A counter machine some of whose rows are None."""
+    rows = []
+    for _ in range(states):
+        if random.random() < stops:
+            rows.append(None)
+        elif random.random() < 0.5:
+            rows.append(("inc", random.randrange(count), random.randrange(states)))
+        else:
+            rows.append(("dec", random.randrange(count), random.randrange(states), random.randrange(states)))
+    return Counters(count, rows)
 
 
 def sample_tapes():
