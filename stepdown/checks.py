@@ -1,12 +1,15 @@
 """Questions about values that several modules ask."""
 
 
+def is_whole(value):
+    """Whether a value is an integer."""
+    # Python counts True and False among its integers; the document does not.
+    return isinstance(value, int) and not isinstance(value, bool)
+
+
 def is_number(value, low, high):
     """Whether a value is an integer from low to high."""
-    # Python counts True and False among its integers; the document does not.
-    if not isinstance(value, int) or isinstance(value, bool):
-        return False
-    return low <= value <= high
+    return is_whole(value) and low <= value <= high
 
 
 def are_numbers(value, low, high):

@@ -10,6 +10,7 @@ BUILTINS = {
     "list", "tuple", "dict", "set", "isinstance", "ord", "repr", "any", "all", "divmod", "super",
     "ValueError", "KeyError", "IndexError",
 }
+LIBRARY = {"math": ("gcd",)}
 NOT_USED = (
     ast.AsyncFunctionDef, ast.Global, ast.Await, ast.Div, ast.ImportFrom, ast.Import,
 )
@@ -44,7 +45,11 @@ class LanguageTest(unittest.TestCase):
     def test_module_level(self):
         for path in files():
             for node in ast.parse(path.read_text()).body:
-                if isinstance(node, ast.ImportFrom):
+                if isinstance(node, ast.ImportFrom) and node.module in LIBRARY:
+                    for name in node.names:
+                        self.assertIn(name.name, LIBRARY[node.module], path.name)
+                        self.assertIsNone(name.asname)
+                elif isinstance(node, ast.ImportFrom):
                     self.assertTrue(node.module.startswith("stepdown."), (path.name, node.module))
                     self.assertEqual(node.level, 0)
                     self.assertTrue((PACKAGE / (node.module.split(".")[1] + ".py")).exists())
