@@ -2,6 +2,7 @@
 
 from stepdown.checks import are_numbers, is_line, is_number
 from stepdown.errors import BadCells
+from stepdown.running import run_by_steps
 from stepdown.tape import trimmed
 
 MOST_LETTERS = 300
@@ -58,14 +59,7 @@ class Cells:
 
     def run(self, configuration, steps):
         """The configuration after at most so many steps, and their number."""
-        taken = 0
-        while taken < steps:
-            after = self.step(configuration)
-            if after is None:
-                break
-            configuration = after
-            taken += 1
-        return configuration, taken
+        return run_by_steps(self, configuration, steps)
 
     def rows(self, configuration, steps):
         """The rows of a run, all of the cells that it can reach."""

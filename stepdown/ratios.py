@@ -4,6 +4,7 @@ from math import gcd
 
 from stepdown.checks import is_whole
 from stepdown.errors import BadMachine
+from stepdown.running import run_by_steps
 
 MOST_FRACTIONS = 5000
 
@@ -54,14 +55,7 @@ class Ratios:
 
     def run(self, configuration, steps):
         """The configuration after at most so many steps, and their number."""
-        taken = 0
-        while taken < steps:
-            after = self.step(configuration)
-            if after is None:
-                break
-            configuration = after
-            taken += 1
-        return configuration, taken
+        return run_by_steps(self, configuration, steps)
 
 
 def reduced(machine):

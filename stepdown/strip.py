@@ -3,6 +3,7 @@
 from stepdown.cells import unpadded
 from stepdown.checks import is_line
 from stepdown.errors import BadTiles, ManyRows
+from stepdown.running import run_by_steps
 from stepdown.tiles import GREATEST_COLOUR, by_west, ends_of_rows, next_floor
 
 BLANK = (0, 0, 0, 0)
@@ -49,11 +50,4 @@ class Strip:
 
     def run(self, configuration, steps):
         """The configuration after at most so many steps, and their number."""
-        taken = 0
-        while taken < steps:
-            after = self.step(configuration)
-            if after is None:
-                break
-            configuration = after
-            taken += 1
-        return configuration, taken
+        return run_by_steps(self, configuration, steps)
