@@ -24,18 +24,24 @@ def primes_below(limit):
 
 def exponents(n, basis):
     """The tuple of the exponents of these primes in a number, or None if it has another prime factor."""
-    # Each prime would divide 0 without end.
-    if n < 1:
-        return None
+    found, rest = parted(n, basis)
+    return found if rest == 1 else None
+
+
+def parted(n, basis):
+    """The tuple of the exponents of these primes in a number, and the number without them."""
     found = []
     for prime in basis:
         exponent, n = taken_out(n, prime)
         found.append(exponent)
-    return tuple(found) if n == 1 else None
+    return tuple(found), n
 
 
 def taken_out(n, prime):
     """How many times a prime divides a number, and the number without it."""
+    # It would divide 0 without end.
+    if n == 0:
+        return 0, 0
     # With squares of squares, a great exponent takes few divisions.
     squares = []
     square = prime

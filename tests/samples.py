@@ -4,6 +4,7 @@ from random import Random
 
 from stepdown.counters import Counters
 from stepdown.stacks import Stacks
+from stepdown.tag import Tag
 from stepdown.tape import Tape
 
 ADD_ONE = Tape(2, 2, [(1, 1, 1), (0, 1, 0), None, None])
@@ -65,6 +66,22 @@ def random_counters(random, count, states, stops=0.1):
         else:
             rows.append(("dec", random.randrange(count), random.randrange(states), random.randrange(states)))
     return Counters(count, rows)
+
+
+def random_tag(random, letters, longest=3, stops=0.15):
+    """A tag machine some of whose words are None."""
+    words = []
+    for _ in range(letters):
+        if random.random() < stops:
+            words.append(None)
+        else:
+            words.append(tuple(random.randrange(letters) for _ in range(random.randrange(longest + 1))))
+    return Tag(letters, words)
+
+
+def random_row(random, machine, longest=6):
+    """A row of letters of a tag machine."""
+    return tuple(random.randrange(machine.letters) for _ in range(random.randrange(longest + 1)))
 
 
 def sample_tapes():

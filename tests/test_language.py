@@ -58,6 +58,13 @@ class LanguageTest(unittest.TestCase):
                 else:
                     self.assertIsInstance(node, (ast.Assign, ast.FunctionDef, ast.ClassDef), path.name)
 
+    def test_values_at_module_level_are_literals(self):
+        for path in files():
+            for node in ast.parse(path.read_text()).body:
+                if isinstance(node, ast.Assign):
+                    self.assertEqual(len(node.targets), 1, (path.name, node.lineno))
+                    ast.literal_eval(node.value)
+
     def test_what_functions_contain(self):
         for path in files():
             tree = ast.parse(path.read_text())
